@@ -248,7 +248,7 @@ func sizes() []int {
 // large returns sizes of which there are no lists.
 func large(r *rand.Rand) []int {
 	list := []int{1 << 31, 1 << 32, 1<<62 - 1, 1 << 62, 1<<62 + 1, math.MaxInt - 1, math.MaxInt}
-	for range 20 {
+	for range 6 {
 		list = append(list, 2+r.Int()>>r.Intn(56))
 	}
 	return list
@@ -261,7 +261,7 @@ func within(r *rand.Rand, n int) []int {
 		k *= 2
 	}
 	list := []int{1, 2, 3, k - 1, k, k + 1, n / 2, n - 2, n - 1}
-	for range 10 {
+	for range 3 {
 		list = append(list, 1+r.Intn(n-1), 1<<r.Intn(62))
 	}
 	return slices.DeleteFunc(list, func(m int) bool { return m < 1 || m >= n })
